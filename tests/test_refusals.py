@@ -119,7 +119,7 @@ class TwoHundredSignals(unittest.TestCase):
         self.assertEqual(answer_of(with_signals(200), [CHILD, 1, 2]), [4, 2])
         self.assertEqual(answer_of(with_signals(200), [ENDS, 1, 3]), [2])
 
-    def test_the_most_that_a_hundred_calls_reach(self):
+    def test_a_hundred_calls_that_come_near_are_not_refused(self):
         calls = starts(2) + [[WATCH, 1, 2] for each in range(96)] + [[ENDS, 1, 0], [WATCH, 2, 1]]
         self.assertEqual(asked(*calls)[-2:], [[96], [97]])
 
