@@ -1,10 +1,12 @@
 """What the calls do and answer, once it is known that they are not refused."""
 
-from linkwatches.codes import CALL_CHILD, CALL_CUT, CALL_ENDS, CALL_LINK, CALL_START
-from linkwatches.codes import CALL_UNWATCH, CALL_WATCH
-from linkwatches.codes import SIGNAL_CUT, SIGNAL_LINK, SIGNAL_STOP, SIGNAL_UNWATCH, SIGNAL_WATCH
+from linkwatches.arrivals import arrive
+from linkwatches.codes import CALL_BOX, CALL_CHILD, CALL_CUT, CALL_DELIVER, CALL_ENDS, CALL_LINK, CALL_PROCESS
+from linkwatches.codes import CALL_SAY, CALL_START, CALL_STOP, CALL_TRAP, CALL_TURNS, CALL_UNWATCH, CALL_WATCH
+from linkwatches.codes import SIGNAL_CUT, SIGNAL_LINK, SIGNAL_STOP, SIGNAL_UNWATCH, SIGNAL_WATCH, SIGNAL_WORD
 from linkwatches.ending import end_process
 from linkwatches.state import HOLDS
+from linkwatches.telling import air, box, process
 
 HOW_LINKED = 1
 HOW_WATCHED = 2
@@ -26,7 +28,21 @@ def carry_out(world, call):
         return unwatch(world, call[1], call[2])
     if kind == CALL_ENDS:
         return ends(world, call[1], call[2])
-    return stop(world, call[1], call[2], call[3])
+    if kind == CALL_STOP:
+        return stop(world, call[1], call[2], call[3])
+    if kind == CALL_TRAP:
+        return trap(world, call[1], call[2])
+    if kind == CALL_SAY:
+        return say(world, call[1], call[2], call[3])
+    if kind == CALL_DELIVER:
+        return deliver(world, call[1], call[2])
+    if kind == CALL_TURNS:
+        return turns(world, call[1])
+    if kind == CALL_BOX:
+        return box(world, call[1])
+    if kind == CALL_PROCESS:
+        return process(world, call[1])
+    return air(world)
 
 
 def start(world):
@@ -93,3 +109,27 @@ def ends(world, p, why):
 def stop(world, p, q, why):
     world.send(p, q, (SIGNAL_STOP, why))
     return [0]
+
+
+def trap(world, p, yes):
+    trapping = world.processes[p]
+    trapped = trapping.traps
+    trapping.traps = yes == 1
+    return [int(trapped)]
+
+
+def say(world, p, q, n):
+    world.send(p, q, (SIGNAL_WORD, n))
+    return [0]
+
+
+def deliver(world, p, q):
+    return list(arrive(world, world.place_of_first(p, q)))
+
+
+def turns(world, n):
+    arrived = 0
+    while arrived < n and len(world.signals) > 0:
+        arrive(world, 0)
+        arrived += 1
+    return [arrived]

@@ -1,4 +1,4 @@
-"""The numbers by which calls, signals and refusals are told."""
+"""The numbers by which calls, signals, notes, whys and refusals are told."""
 
 CALL_START = 0
 CALL_CHILD = 1
@@ -8,19 +8,39 @@ CALL_WATCH = 4
 CALL_UNWATCH = 5
 CALL_ENDS = 6
 CALL_STOP = 7
+CALL_TRAP = 8
+CALL_SAY = 9
+CALL_DELIVER = 10
+CALL_TURNS = 11
+CALL_BOX = 12
+CALL_PROCESS = 13
+CALL_AIR = 14
 
 # How many numbers stand behind a call's own, by the call's own.
-NUMBERS_BEHIND = (0, 2, 2, 2, 2, 2, 2, 3)
+NUMBERS_BEHIND = (0, 2, 2, 2, 2, 2, 2, 3, 2, 3, 2, 1, 1, 1, 0)
 
+SIGNAL_WORD = 0
 SIGNAL_LINK = 1
 SIGNAL_CUT = 2
+SIGNAL_HEARD = 3
 SIGNAL_ENDED = 4
 SIGNAL_STOP = 5
 SIGNAL_WATCH = 6
 SIGNAL_UNWATCH = 7
 SIGNAL_GONE = 8
 
+NOTE_WORD = 0
+NOTE_ENDED = 1
+NOTE_GONE = 2
+NOTE_STOP = 3
+
+WHY_AS_IT_SHOULD = 0
+WHY_TO_BE_KILLED = 1
+WHY_KILLED = 2
+WHY_NOBODY = 3
+
 NOT_REFUSED = 0
 REFUSED_MISFIT = -1
+REFUSED_NONE = -5
 REFUSED_FULL = -6
 REFUSED_ENDED = -8

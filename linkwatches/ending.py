@@ -1,6 +1,14 @@
-"""How a process ends, and who is told of it."""
+"""How an end comes to a process, how it ends, and who is told of it."""
 
-from linkwatches.codes import SIGNAL_ENDED, SIGNAL_GONE, SIGNAL_UNWATCH
+from linkwatches.codes import SIGNAL_ENDED, SIGNAL_GONE, SIGNAL_UNWATCH, WHY_AS_IT_SHOULD
+
+
+def let_end_come(world, q, why, note):
+    reached = world.processes[q]
+    if reached.traps:
+        reached.notes.append(note)
+    elif why != WHY_AS_IT_SHOULD:
+        end_process(world, q, why)
 
 
 def end_process(world, p, why):

@@ -8,12 +8,15 @@ class Process:
     def __init__(self):
         self.living = True
         self.why = 0
+        self.traps = False
         # To whom: HOLDS, or the number of its cut.
         self.links = {}
         # Number: whom it watches. The order of the keys is the one in which it began to.
         self.watches = {}
         # Number: whose the watch is. The order of the keys is the one in which they came.
         self.watchers = {}
+        # Its box: each note is three numbers, the oldest stands first.
+        self.notes = []
 
     def holds_link(self, q):
         return q in self.links and self.links[q] == HOLDS
@@ -39,3 +42,9 @@ class World:
 
     def send(self, p, q, signal):
         self.signals.append((p, q, signal))
+
+    def place_of_first(self, p, q):
+        for place, sent in enumerate(self.signals):
+            if sent[0] == p and sent[1] == q:
+                return place
+        return None

@@ -1,9 +1,12 @@
 """What the tests share: the calls' numbers, written calls, and ways to look at what came of them."""
 
+from collections import namedtuple
+
 from linkwatches.state import World
 from linkwatches.world import answer_of, answers
 
-START, CHILD, LINK, CUT, WATCH, UNWATCH, ENDS, STOP = range(8)
+(START, CHILD, LINK, CUT, WATCH, UNWATCH, ENDS, STOP,
+ TRAP, SAY, DELIVER, TURNS, BOX, PROCESS, AIR) = range(15)
 HIGHEST = 4294967295
 
 # One call of each sort by the process p, on q where it tells two, that fits if both are there.
@@ -15,7 +18,20 @@ BY_P_ON_Q = {
     UNWATCH: lambda p, q: [UNWATCH, p, 1],
     ENDS: lambda p, q: [ENDS, p, 0],
     STOP: lambda p, q: [STOP, p, q, 0],
+    TRAP: lambda p, q: [TRAP, p, 1],
+    SAY: lambda p, q: [SAY, p, q, 0],
+    DELIVER: lambda p, q: [DELIVER, p, q],
+    BOX: lambda p, q: [BOX, p],
+    PROCESS: lambda p, q: [PROCESS, p],
 }
+
+# All that can be asked of a world without changing it, whoever is there.
+LOOKS = [[AIR]] + [[look, p] for look in (PROCESS, BOX) for p in range(1, 13)]
+
+# How many numbers tell a signal, by its first.
+SIGNAL_SIZES = (2, 1, 2, 2, 2, 2, 2, 2, 3)
+
+Seen = namedtuple("Seen", "lives why traps links watches watched")
 
 
 def flat(rows):
@@ -67,3 +83,56 @@ def picture(world):
         world.signals,
         world.last_begun,
     ))
+
+
+def looks(world):
+    return [answer_of(world, look) for look in LOOKS]
+
+
+def take(row, size):
+    taken = tuple(row[:size])
+    if len(taken) != size:
+        raise ValueError("too short")
+    row[:size] = []
+    return taken
+
+
+def take_rows(row, size):
+    return [take(row, size) for each in range(take(row, 1)[0])]
+
+
+def finished(row, told):
+    if row:
+        raise ValueError("too long")
+    return told
+
+
+def read_box(row):
+    row = list(row)
+    return finished(row, take_rows(row, 3))
+
+
+def read_process(row):
+    row = list(row)
+    return finished(row, Seen(*take(row, 3), take_rows(row, 2), take_rows(row, 2), take_rows(row, 2)))
+
+
+def read_air(row):
+    row = list(row)
+    told = [take(row, 2) + (take(row, SIGNAL_SIZES[row[0]]),) for each in range(take(row, 1)[0])]
+    return finished(row, told)
+
+
+def box_of(p, *calls):
+    """The notes that box tells of p behind these calls."""
+    return read_box(last(*calls, [BOX, p]))
+
+
+def seen(p, *calls):
+    """What process tells of p behind these calls."""
+    return read_process(last(*calls, [PROCESS, p]))
+
+
+def in_air(*calls):
+    """The signals that air tells behind these calls, each from whom, to whom, and the signal."""
+    return read_air(last(*calls, [AIR]))
